@@ -1,0 +1,1 @@
+"""Slips for files: they are asked for, served in turn, and come back."""
