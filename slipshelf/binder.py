@@ -21,9 +21,19 @@ BACK = 3
 DROP = 4
 COUNT = 5
 WHO = 6
+SLIP = 7
+FILES = 8
+WAITS = 9
+LATE = 10
 
 # By a call's number: how many numbers it has, its own among them, but for the files of its row.
-CALL_LENGTHS = {1: 1, 2: 5, 3: 3, 4: 3, 5: 2, 6: 3}
+CALL_LENGTHS = {1: 1, 2: 5, 3: 3, 4: 3, 5: 2, 6: 3, 7: 3, 8: 3, 9: 3, 10: 3, 11: 4}
+
+# What has become of a slip.
+WAITING = 0
+OUT = 1
+DONE = 2
+WITHDRAWN = 3
 
 NEVER = -1
 
@@ -31,6 +41,11 @@ NEVER = -1
 def befell(day, k):
     """Whether what happened on that day, or never, has happened by day k."""
     return day != NEVER and day <= k
+
+
+def share(files, others):
+    """Whether one of the files is among the others."""
+    return any([f in others for f in files])
 
 
 class Slip:
@@ -56,7 +71,27 @@ class Slip:
         """Its files that are out with it, known by day k."""
         if not befell(self.served, k):
             return []
-        return [f for f in self.files if not befell(self.returned.get(f, NEVER), k)]
+        return [f for f in self.files if not self.brought(f, k)]
+
+    def brought(self, f, k):
+        """Whether its file f is back, known by day k."""
+        return befell(self.returned.get(f, NEVER), k)
+
+    def kept(self, k):
+        """The files that it keeps from later slips, known by day k: those it waits for, or those it has."""
+        if self.waits(k):
+            return self.files
+        return self.held(k)
+
+    def state(self, k):
+        """What has become of it, known by day k."""
+        if self.waits(k):
+            return WAITING
+        if befell(self.withdrawn, k):
+            return WITHDRAWN
+        if len(self.held(k)) > 0:
+            return OUT
+        return DONE
 
     def due(self):
         """The day when its files are due, once it is served."""
@@ -87,6 +122,12 @@ class Shelf:
                 found[f] = slip
         return found
 
+    def known(self, k, q):
+        """Slip q, known by day k, or None."""
+        if q < len(self.slips) and self.slips[q].asked <= k:
+            return self.slips[q]
+        return None
+
     def enter(self, day):
         """Count one more entry, of that day, and serve behind it; answer how many slips are served."""
         self.entries += 1
@@ -99,13 +140,27 @@ class Shelf:
         served = 0
         for slip in self.slips:
             if slip.waits(day):
-                if not any([f in kept for f in slip.files]):
+                if not share(slip.files, kept):
                     slip.served = day
                     served += 1
                 # Served or still waiting, it keeps its files from every later slip: so one walk is enough.
                 for f in slip.files:
                     kept[f] = slip
         return served
+
+    def latest(self, k, q, x):
+        """The day when slip q, which waits, is served at the latest from day x on, known by day k."""
+        free = {}
+        for f, holder in self.out(k).items():
+            free[f] = max(holder.due(), x)
+        day = x
+        for slip in self.slips[:q + 1]:
+            if slip.waits(k):
+                # No later slip takes a file ahead of it: it is served when those before it are done with the last one.
+                day = max([free.get(f, x) for f in slip.files])
+                for f in slip.files:
+                    free[f] = day + slip.days
+        return day
 
 
 def files_fit(files):
@@ -164,9 +219,9 @@ def drop(shelf, d, q):
         return [OUT_OF_BOUNDS]
     if d < shelf.last:
         return [TOO_EARLY]
-    if q >= len(shelf.slips):
+    slip = shelf.known(d, q)
+    if slip is None:
         return [NO_SLIP]
-    slip = shelf.slips[q]
     if not slip.waits(d):
         return [NOT_SO]
     if shelf.full():
@@ -194,6 +249,67 @@ def who(shelf, k, f):
     return [1, slip.number, slip.reader, slip.served, slip.due()]
 
 
+def tell_slip(shelf, k, q):
+    """Answer what is known of slip q by day k: 0, asked, served, days, reader, state, its files that are back."""
+    if k > LAST_DAY:
+        return [OUT_OF_BOUNDS]
+    slip = shelf.known(k, q)
+    if slip is None:
+        return [NO_SLIP]
+    served = slip.served if befell(slip.served, k) else NEVER
+    told = [0, slip.asked, served, slip.days, slip.reader, slip.state(k)]
+    return told + [f for f in slip.files if slip.brought(f, k)]
+
+
+def tell_files(shelf, k, q):
+    """Answer how many files slip q asks for, and which."""
+    if k > LAST_DAY:
+        return [OUT_OF_BOUNDS]
+    slip = shelf.known(k, q)
+    if slip is None:
+        return [NO_SLIP]
+    return [len(slip.files)] + slip.files
+
+
+def waits_for(shelf, k, q):
+    """Answer how many slips keep slip q from being served, known by day k, and which."""
+    if k > LAST_DAY:
+        return [OUT_OF_BOUNDS]
+    slip = shelf.known(k, q)
+    if slip is None:
+        return [NO_SLIP]
+    if not slip.waits(k):
+        return [NOT_SO]
+    # While it waits no later slip comes by one of its files, so the earlier ones are all.
+    found = [other.number for other in shelf.slips[:q] if share(slip.files, other.kept(k))]
+    return [len(found)] + found
+
+
+def late(shelf, k, x):
+    """Answer how many files are out, known by day k, and due before day x, and which."""
+    if k > LAST_DAY or x > LAST_DAY:
+        return [OUT_OF_BOUNDS]
+    overdue = []
+    for f, slip in shelf.out(k).items():
+        if slip.due() < x:
+            overdue.append((slip.due(), f))
+    return [len(overdue)] + [pair[1] for pair in sorted(overdue)]
+
+
+def when(shelf, k, q, x):
+    """Answer 0 and the day when slip q is served at the latest from day x on, known by day k."""
+    if k > LAST_DAY or x > LAST_DAY:
+        return [OUT_OF_BOUNDS]
+    if x < k:
+        return [TOO_EARLY]
+    slip = shelf.known(k, q)
+    if slip is None:
+        return [NO_SLIP]
+    if not slip.waits(k):
+        return [NOT_SO]
+    return [0, shelf.latest(k, q, x)]
+
+
 def call_length(calls, at):
     """How many numbers the call has that begins at this place of the list."""
     length = CALL_LENGTHS[calls[at]]
@@ -216,7 +332,17 @@ def answer_of(shelf, call):
         return drop(shelf, call[1], call[2])
     if call[0] == COUNT:
         return count(shelf, call[1])
-    return who(shelf, call[1], call[2])
+    if call[0] == WHO:
+        return who(shelf, call[1], call[2])
+    if call[0] == SLIP:
+        return tell_slip(shelf, call[1], call[2])
+    if call[0] == FILES:
+        return tell_files(shelf, call[1], call[2])
+    if call[0] == WAITS:
+        return waits_for(shelf, call[1], call[2])
+    if call[0] == LATE:
+        return late(shelf, call[1], call[2])
+    return when(shelf, call[1], call[2], call[3])
 
 
 def answers(calls):

@@ -6,6 +6,7 @@ LAST_DAY = 292193
 LAST_READER = 65535
 LAST_FILE = 16383
 HIGHEST = 4294967295
+MOST_CALLS = 700
 
 
 def begin():
@@ -30,6 +31,26 @@ def count(k):
 
 def who(k, f):
     return [6, k, f]
+
+
+def slip(k, q):
+    return [7, k, q]
+
+
+def files_of(k, q):
+    return [8, k, q]
+
+
+def waits(k, q):
+    return [9, k, q]
+
+
+def late(k, x):
+    return [10, k, x]
+
+
+def when(k, q, x):
+    return [11, k, q, x]
 
 
 def joined(calls):
@@ -61,6 +82,15 @@ def last(*calls):
     return run(list(calls))[-1]
 
 
+def asked(row, questions):
+    """The answers to some questions behind a row of calls: in several lists, for one has at most 700 calls."""
+    room = MOST_CALLS - len(row)
+    told = []
+    for at in range(0, len(questions), room):
+        told.extend(run(row + questions[at:at + room])[len(row):])
+    return told
+
+
 def entries(many, day=0):
     """So many entries (3 or more) of one day, each of them taken.
 
@@ -78,8 +108,13 @@ def slips(many, day=0):
     return [ask(day, 1, 5, [7]) for number in range(many)]
 
 
-def whole_view(days, files):
-    """Every question that these days and files allow."""
-    asked = [count(k) for k in days]
-    asked.extend([who(k, f) for k in days for f in files])
-    return asked
+def whole_view(days, files, numbers):
+    """Every question that these days, files and slips allow."""
+    questions = []
+    for k in days:
+        questions.append(count(k))
+        questions.extend([who(k, f) for f in files])
+        questions.extend([late(k, x) for x in (max(0, k - 3), k, k + 4, k + 9)])
+        for q in numbers:
+            questions.extend([slip(k, q), files_of(k, q), waits(k, q), when(k, q, k), when(k, q, k + 6)])
+    return questions

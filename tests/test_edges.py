@@ -3,7 +3,8 @@
 import unittest
 
 from tests.helper import (
-    HIGHEST, LAST_DAY, LAST_FILE, LAST_READER, ask, back, begin, count, drop, entries, last, run, slips, who,
+    HIGHEST, LAST_DAY, LAST_FILE, LAST_READER, ask, back, begin, count, drop, entries, files_of, last, late, run, slip,
+    slips, waits, when, who,
 )
 
 WAITING = [ask(0, 1, 5, [1]), ask(0, 2, 5, [1])]
@@ -39,6 +40,42 @@ class Days(unittest.TestCase):
         self.assertEqual(last(*WAITING, who(LAST_DAY, 1)), [1, 0, 1, 0, 5])
         self.assertEqual(last(*WAITING, who(LAST_DAY + 1, 1)), [-1])
         self.assertEqual(last(*WAITING, who(HIGHEST, 1)), [-1])
+
+    def test_slip(self):
+        self.assertEqual(last(*WAITING, slip(0, 1)), [0, 0, -1, 5, 2, 0])
+        self.assertEqual(last(*WAITING, slip(LAST_DAY, 1)), [0, 0, -1, 5, 2, 0])
+        self.assertEqual(last(*WAITING, slip(LAST_DAY + 1, 1)), [-1])
+        self.assertEqual(last(*WAITING, slip(HIGHEST, 1)), [-1])
+
+    def test_files(self):
+        self.assertEqual(last(*WAITING, files_of(0, 1)), [1, 1])
+        self.assertEqual(last(*WAITING, files_of(LAST_DAY, 1)), [1, 1])
+        self.assertEqual(last(*WAITING, files_of(LAST_DAY + 1, 1)), [-1])
+        self.assertEqual(last(*WAITING, files_of(HIGHEST, 1)), [-1])
+
+    def test_waits(self):
+        self.assertEqual(last(*WAITING, waits(0, 1)), [1, 0])
+        self.assertEqual(last(*WAITING, waits(LAST_DAY, 1)), [1, 0])
+        self.assertEqual(last(*WAITING, waits(LAST_DAY + 1, 1)), [-1])
+        self.assertEqual(last(*WAITING, waits(HIGHEST, 1)), [-1])
+
+    def test_late(self):
+        self.assertEqual(last(*WAITING, late(0, 0)), [0])
+        self.assertEqual(last(*WAITING, late(0, LAST_DAY)), [1, 1])
+        self.assertEqual(last(*WAITING, late(LAST_DAY, 0)), [0])
+        self.assertEqual(last(*WAITING, late(LAST_DAY, LAST_DAY)), [1, 1])
+        for k, x in ((LAST_DAY + 1, 0), (0, LAST_DAY + 1), (LAST_DAY + 1, LAST_DAY + 1), (HIGHEST, 0), (0, HIGHEST)):
+            with self.subTest(k=k, x=x):
+                self.assertEqual(last(*WAITING, late(k, x)), [-1])
+
+    def test_when(self):
+        self.assertEqual(last(*WAITING, when(0, 1, 0)), [0, 5])
+        self.assertEqual(last(*WAITING, when(0, 1, LAST_DAY)), [0, LAST_DAY])
+        self.assertEqual(last(*WAITING, when(LAST_DAY, 1, LAST_DAY)), [0, LAST_DAY])
+        self.assertEqual(last(*WAITING, when(LAST_DAY, 1, LAST_DAY - 1)), [-3])
+        for k, x in ((LAST_DAY + 1, LAST_DAY + 1), (0, LAST_DAY + 1), (LAST_DAY + 1, 0), (HIGHEST, 0), (0, HIGHEST)):
+            with self.subTest(k=k, x=x):
+                self.assertEqual(last(*WAITING, when(k, 1, x)), [-1])
 
     def test_due_may_lie_beyond_the_last_day(self):
         told = run([ask(LAST_DAY, 1, 1000, [1]), who(LAST_DAY, 1), who(LAST_DAY - 1, 1)])
@@ -137,7 +174,8 @@ class DaysDoNotFall(unittest.TestCase):
                 self.assertGreaterEqual(last(*self.start, entry, ask(30, 1, 1, [3]))[0], 3)
 
     def test_the_last_entry_is_meant_and_not_the_last_call(self):
-        for call in (count(50), who(50, 1), drop(50, 9), back(50, 9), ask(50, 0, 1, [1]), drop(50, 0)):
+        for call in (count(50), who(50, 1), drop(50, 9), back(50, 9), ask(50, 0, 1, [1]), drop(50, 0), slip(50, 1),
+                     files_of(50, 1), waits(50, 1), late(50, 60), when(50, 1, 60)):
             with self.subTest(call=call):
                 self.assertEqual(last(*self.start, call, drop(20, 2)), [0])
 
@@ -171,6 +209,26 @@ class Slips(unittest.TestCase):
         self.assertEqual(last(*slips(2), drop(0, 1)), [0])
         self.assertEqual(last(*slips(2), drop(0, 2)), [-4])
 
+    def test_which_slips_the_questions_know(self):
+        for many in (1, 2, 64):
+            for question in (slip, files_of, waits, lambda k, q: when(k, q, k)):
+                told = run(slips(many) + [question(0, q) for q in (0, many - 1, many, HIGHEST)])
+                self.assertNotEqual(told[many], [-4])
+                self.assertNotEqual(told[many + 1], [-4])
+                self.assertEqual(told[many + 2:], [[-4], [-4]])
+
+    def test_the_first_and_the_last_of_64(self):
+        told = run(slips(64, 3) + [slip(3, 0), slip(3, 63), files_of(3, 63), waits(3, 0), waits(3, 63), when(3, 0, 3),
+                                   when(3, 63, 3)])
+        self.assertEqual(told[64:], [[0, 3, 3, 5, 1, 1], [0, 3, -1, 5, 1, 0], [1, 7], [-5], [63] + list(range(63)),
+                                     [-5], [0, 3 + 5 * 63]])
+
+    def test_without_slips_there_is_none(self):
+        for k in (0, 7, LAST_DAY):
+            told = run([question(k, q) for question in (slip, files_of, waits) for q in (0, 1, 63, HIGHEST)])
+            self.assertEqual(told, [[-4]] * 12)
+            self.assertEqual(last(when(k, 0, k)), [-4])
+
 
 class Entries(unittest.TestCase):
     kinds = (ask(0, 1, 1, [900]), back(0, 8), drop(0, 1))
@@ -198,8 +256,15 @@ class Entries(unittest.TestCase):
                     self.assertEqual(last(*entries(511), first, call), [-6])
 
     def test_refused_calls_and_questions_are_not_counted(self):
-        idle = [ask(0, 0, 1, [1]), back(0, 999), drop(0, 99), drop(0, 0), count(0), who(0, 8)] * 20
-        self.assertEqual(last(*idle, *entries(511), back(0, 8)), [1])
+        idle = [ask(0, 0, 1, [1]), back(0, 999), drop(0, 99), drop(0, 0), count(0), who(0, 8), slip(0, 1),
+                files_of(0, 1), waits(0, 1), late(0, 5), when(0, 1, 0)]
+        start = entries(511)
+        self.assertEqual(last(*start[:3], *idle * 16, *start[3:], back(0, 8)), [1])
+        self.assertEqual(last(*start[:3], *idle * 16, *start[3:], back(0, 8), back(0, 7)), [-6])
+
+    def test_full_of_entries_the_questions_are_answered(self):
+        told = run(entries(512) + [slip(0, 0), files_of(0, 1), waits(0, 2), late(0, 5), when(0, 2, 0)])
+        self.assertEqual(told[512:], [[0, 0, 0, 5, 1, 1], [1, 8], [2, 0, 1], [0], [0, 10]])
 
     def test_begin_is_not_counted(self):
         self.assertEqual(last(begin(), begin(), *entries(511), back(0, 8)), [1])

@@ -25,6 +25,8 @@ NOT_WRITTEN = re.compile(r"""
 \b(type|typing|typing_extensions|enum|Enum|IntEnum|StrEnum|Flag|IntFlag|Generic|Protocol|ABC|ABCMeta|namedtuple
 |NamedTuple|TypedDict|TYPE_CHECKING|abstractmethod)\b|dataclass|overload|contextmanager
 """, re.VERBOSE)
+WALKED = set("zip enumerate reversed range items keys values".split())
+TAKEN = [dir(kind) for kind in (str, int, list, dict, set, bytes)]
 NOT_USED = ast.Lambda, ast.SetComp, ast.DictComp, ast.GeneratorExp, ast.NamedExpr, ast.Starred, ast.Set, ast.Div
 
 
@@ -108,6 +110,32 @@ class Language(unittest.TestCase):
         for place, node in self.nodes(ast.Call):
             if isinstance(node.func, ast.Attribute):
                 self.assertIn(node.func.attr, METHODS | own, place)
+
+    def test_own_methods_and_values_are_not_called_like_pythons(self):
+        values = {node.attr for place, node in self.nodes(ast.Attribute) if isinstance(node.ctx, ast.Store)}
+        methods = {part.name for place, node in self.nodes(ast.ClassDef) for part in node.body
+                   if isinstance(part, ast.FunctionDef)}
+        taken = {name for names in TAKEN for name in names}
+        self.assertEqual((values | methods) & taken - {"__init__"}, set())
+
+    def test_what_is_walked_is_walked_at_once(self):
+        walks = [node.iter for place, node in self.nodes(ast.For, ast.comprehension)]
+        for place, node in self.nodes(ast.Call):
+            name = node.func.attr if isinstance(node.func, ast.Attribute) else node.func.id
+            if name in WALKED:
+                self.assertIn(node, walks, place)
+            self.assertNotIn(name, ("set", "frozenset"), place)
+            self.assertEqual(node.keywords, [], place)
+
+    def test_lists_and_dicts_at_the_top_are_only_read_by_an_index(self):
+        for name, tree in self.trees.items():
+            kept = {node.targets[0].id for node in tree.body
+                    if isinstance(node, ast.Assign) and isinstance(node.value, (ast.List, ast.Dict))}
+            read = [node.value for node in ast.walk(tree)
+                    if isinstance(node, ast.Subscript) and isinstance(node.ctx, ast.Load)]
+            for node in ast.walk(tree):
+                if isinstance(node, ast.Name) and isinstance(node.ctx, ast.Load) and node.id in kept:
+                    self.assertIn(node, read, f"{name}:{node.lineno}")
 
     def test_the_top_of_a_file(self):
         for name, tree in self.trees.items():

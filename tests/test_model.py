@@ -3,10 +3,13 @@
 import random
 import unittest
 
-from tests.helper import ask, back, begin, count, drop, run, whole_view, who
+from tests.helper import (
+    ask, asked, back, begin, count, drop, files_of, late, run, slip, waits, when, who, whole_view,
+)
 
 ROWS = 400
 FILES = 6
+QUESTIONS = 150
 
 
 class Model:
@@ -26,19 +29,26 @@ class Model:
 
     def apply(self, entry, slips, out):
         if entry[0] == "ask":
-            slips.append({"reader": entry[2], "days": entry[3], "files": entry[4], "waits": True, "since": None})
+            slips.append({"asked": entry[1], "reader": entry[2], "days": entry[3], "files": entry[4], "waits": True,
+                          "gone": False, "since": -1, "back": []})
         elif entry[0] == "back":
-            out.pop(entry[2])
+            slips[out.pop(entry[2])]["back"].append(entry[2])
         else:
-            slips[entry[2]]["waits"] = False
+            slips[entry[2]].update(waits=False, gone=True)
+        return self.serve(entry[1], slips, out)
+
+    def serve(self, day, slips, out):
         served = 0
-        for number, slip in enumerate(slips):
+        for number, one in enumerate(slips):
             earlier = [f for other in slips[:number] if other["waits"] for f in other["files"]]
-            if slip["waits"] and not set(slip["files"]) & (set(out) | set(earlier)):
-                slip.update(waits=False, since=entry[1])
-                out.update({f: number for f in slip["files"]})
+            if one["waits"] and not set(one["files"]) & (set(out) | set(earlier)):
+                one.update(waits=False, since=day)
+                out.update({f: number for f in one["files"]})
                 served += 1
         return served
+
+    def due(self, one):
+        return one["since"] + one["days"]
 
     def enter(self, entry):
         slips, out = self.state(292193)
@@ -46,7 +56,8 @@ class Model:
         return self.apply(entry, slips, out)
 
     def answer(self, call):
-        return getattr(self, ("begin", "ask", "back", "drop", "count", "who")[call[0] - 1])(*call[1:])
+        names = ("begin", "ask", "back", "drop", "count", "who", "slip", "files", "waits", "late", "when")
+        return getattr(self, names[call[0] - 1])(*call[1:])
 
     def begin(self):
         self.entries = []
@@ -94,7 +105,7 @@ class Model:
         if k > 292193:
             return [-1]
         slips = self.state(k)[0]
-        return [len(slips), len([slip for slip in slips if slip["waits"]])]
+        return [len(slips), len([one for one in slips if one["waits"]])]
 
     def who(self, k, f):
         if k > 292193 or f > 16383:
@@ -102,12 +113,79 @@ class Model:
         slips, out = self.state(k)
         if f not in out:
             return [0]
-        slip = slips[out[f]]
-        return [1, out[f], slip["reader"], slip["since"], slip["since"] + slip["days"]]
+        one = slips[out[f]]
+        return [1, out[f], one["reader"], one["since"], self.due(one)]
+
+    def slip(self, k, q):
+        if k > 292193:
+            return [-1]
+        slips, out = self.state(k)
+        if q >= len(slips):
+            return [-4]
+        one = slips[q]
+        state = 0 if one["waits"] else 3 if one["gone"] else 1 if q in out.values() else 2
+        return [0, one["asked"], one["since"], one["days"], one["reader"], state] + sorted(one["back"])
+
+    def files(self, k, q):
+        if k > 292193:
+            return [-1]
+        slips = self.state(k)[0]
+        if q >= len(slips):
+            return [-4]
+        return [len(slips[q]["files"]), *slips[q]["files"]]
+
+    def waits(self, k, q):
+        if k > 292193:
+            return [-1]
+        slips, out = self.state(k)
+        if q >= len(slips):
+            return [-4]
+        if not slips[q]["waits"]:
+            return [-5]
+        keep = {out[f] for f in slips[q]["files"] if f in out}
+        keep.update(number for number in range(q) if slips[number]["waits"]
+                    and set(slips[number]["files"]) & set(slips[q]["files"]))
+        return [len(keep), *sorted(keep)]
+
+    def late(self, k, x):
+        if k > 292193 or x > 292193:
+            return [-1]
+        slips, out = self.state(k)
+        found = [f for f in sorted(out) if self.due(slips[out[f]]) < x]
+        found.sort(key=lambda f: self.due(slips[out[f]]))
+        return [len(found), *found]
+
+    def when(self, k, q, x):
+        if k > 292193 or x > 292193:
+            return [-1]
+        if x < k:
+            return [-3]
+        slips, out = self.state(k)
+        if q >= len(slips):
+            return [-4]
+        if not slips[q]["waits"]:
+            return [-5]
+        day = x
+        while True:
+            for f in [f for f in out if max(self.due(slips[out[f]]), x) == day]:
+                out.pop(f)
+            self.serve(day, slips, out)
+            if not slips[q]["waits"]:
+                return [0, day]
+            day += 1
+
+
+def made_up_question(chance, day):
+    k = chance.randint(0, day + 2)
+    q = chance.randrange(12)
+    return chance.choice((
+        count(k), who(k, chance.randrange(FILES)), slip(k, q), files_of(k, q), waits(k, q),
+        late(k, chance.randint(0, day + 12)), when(k, q, max(0, k + chance.randint(-1, 12))),
+    ))
 
 
 def made_up_call(chance, day):
-    kind = chance.choice(("ask", "ask", "ask", "back", "back", "back", "back", "drop", "count", "who", "who", "odd"))
+    kind = chance.choice(("ask", "ask", "ask", "back", "back", "back", "back", "drop", "question", "question", "odd"))
     d = day if chance.random() < 0.9 else max(0, day - 1)
     if kind == "ask":
         files = sorted(chance.sample(range(FILES), chance.randint(1, 3)))
@@ -116,13 +194,13 @@ def made_up_call(chance, day):
         return back(d, chance.randrange(FILES))
     if kind == "drop":
         return drop(d, chance.randrange(12))
-    if kind == "count":
-        return count(chance.randint(0, day + 2))
-    if kind == "who":
-        return who(chance.randint(0, day + 2), chance.randrange(FILES))
+    if kind == "question":
+        return made_up_question(chance, day)
     return chance.choice((
         ask(d, 0, 1, [1]), ask(d, 1, 1, [2, 1]), ask(d, 1, 1, []), back(292194, 1), drop(292194, 0), count(292194),
-        who(d, 16384), back(d, 16384), ask(d, 1, 1001, [3]), ask(d, 1, 1, range(20)),
+        who(d, 16384), back(d, 16384), ask(d, 1, 1001, [3]), ask(d, 1, 1, range(20)), slip(292194, 0), slip(d, 64),
+        files_of(292194, 0), waits(292194, 1), late(292194, d), late(d, 292194), when(d, 1, 292194),
+        when(292194, 1, d),
     ))
 
 
@@ -138,6 +216,13 @@ def made_up_row(seed):
     return row
 
 
+def questions_behind(row, seed):
+    """Some of all that may be asked behind a row."""
+    many = len([call for call in row if call[0] == 2])
+    view = whole_view(range(last_day(row) + 3), range(FILES), range(many))
+    return random.Random(seed).sample(view, min(QUESTIONS, len(view)))
+
+
 def last_day(row):
     return max([call[1] for call in row if call[0] in (2, 3, 4) and call[1] <= 292193], default=0)
 
@@ -151,7 +236,7 @@ class AgainstTheWords(unittest.TestCase):
     def test_answers(self):
         for seed in range(ROWS):
             row = made_up_row(seed)
-            row.extend(whole_view(range(0, last_day(row) + 2, 2), range(FILES)))
+            row.extend(questions_behind(row, seed))
             with self.subTest(seed=seed):
                 self.assertEqual(run(row), modelled(row))
 
@@ -167,6 +252,64 @@ class Promises(unittest.TestCase):
             taken = [at for at in range(len(row)) if told[at][0] >= 0]
             with self.subTest(seed=seed):
                 self.assertEqual(run([row[at] for at in taken]), [told[at] for at in taken])
+
+    def test_questions_change_nothing(self):
+        for seed, row in self.rows():
+            entries = [call for call in row if call[0] in (2, 3, 4)]
+            told = run(row)
+            with self.subTest(seed=seed):
+                self.assertEqual(run(entries), [told[at] for at, call in enumerate(row) if call[0] in (2, 3, 4)])
+
+    def test_what_an_earlier_day_knows_stays(self):
+        for seed, row in self.rows():
+            told = run(row)
+            for at in range(len(row) // 3, len(row), 5):
+                day = row[at][1]
+                if row[at][0] in (2, 3, 4) and told[at][0] >= 0 and day > 0:
+                    view = whole_view((day // 2, day - 1), range(FILES), range(8))
+                    with self.subTest(seed=seed, at=at):
+                        self.assertEqual(asked(row, view), asked(row[:at], view))
+
+    def test_who_waits_is_kept_by_somebody_and_nobody_else_is(self):
+        for seed, row in self.rows():
+            day = last_day(row)
+            for q in range(run(row + [count(day)])[-1][0]):
+                state, keep, latest = run(row + [slip(day, q), waits(day, q), when(day, q, day)])[-3:]
+                with self.subTest(seed=seed, q=q):
+                    if state[5] == 0:
+                        self.assertGreater(keep[0], 0)
+                        self.assertEqual(keep[0], len(keep) - 1)
+                        self.assertLess(max(keep[1:]), q)
+                        self.assertGreaterEqual(latest[1], day)
+                    else:
+                        self.assertEqual((keep, latest), ([-5], [-5]))
+
+    def test_at_the_latest_is_so_if_it_goes_so(self):
+        for seed, row in self.rows():
+            chance = random.Random(seed)
+            day = last_day(row)
+            x = day + chance.choice((0, 0, 1, 4, 20))
+            many = run(row + [count(day)])[-1][0]
+            foretold = run(row + [when(day, q, x) for q in range(many)])[len(row):]
+            played = self.played(row, day, x, chance)
+            served = run(played + [slip(292193, q) for q in range(many)])[len(played):]
+            with self.subTest(seed=seed):
+                for q in range(many):
+                    if foretold[q][0] == 0:
+                        self.assertEqual(served[q][2], foretold[q][1])
+                self.assertEqual(run(played + [count(292193)])[-1], [many, 0])
+
+    def played(self, row, day, x, chance):
+        """The row, and each file that is out, or comes to be, back on the day when it is due, but not before x."""
+        while True:
+            told = run(row + [who(day, f) for f in range(FILES)])[len(row):]
+            due = {f: max(x, told[f][4]) for f in range(FILES) if told[f][0] == 1}
+            if not due:
+                return row
+            day = min(due.values())
+            back_now = [f for f in due if due[f] == day]
+            chance.shuffle(back_now)
+            row = row + [back(day, f) for f in back_now]
 
     def test_a_slip_has_all_its_files_when_it_is_served(self):
         for seed, row in self.rows():

@@ -2,7 +2,9 @@
 
 import unittest
 
-from tests.helper import ask, back, count, drop, last, run, whole_view, who
+from tests.helper import (
+    ask, asked, back, count, drop, files_of, last, late, run, slip, waits, when, whole_view, who,
+)
 
 
 class Served(unittest.TestCase):
@@ -138,7 +140,32 @@ class KnownByDays(unittest.TestCase):
     def test_what_an_earlier_day_knows_stays(self):
         for at in range(1, len(self.row)):
             day = self.row[at][1]
-            view = whole_view(range(day), range(5))
+            view = whole_view(range(9, day), range(5), range(4))
             with self.subTest(at=at):
-                before = run(self.row[:at] + view)[at:]
-                self.assertEqual(run(self.row + view)[len(self.row):], before)
+                self.assertEqual(asked(self.row, view), asked(self.row[:at], view))
+
+    def test_each_question_before_on_and_after_the_last_entrys_day(self):
+        row = [ask(10, 1, 5, [1, 2]), ask(11, 2, 7, [2, 3]), ask(12, 3, 1, [3]), back(14, 2)]
+        for question, before, then in (
+            (count, [3, 2], [3, 1]),
+            (lambda k: who(k, 2), [1, 0, 1, 10, 15], [1, 1, 2, 14, 21]),
+            (lambda k: slip(k, 0), [0, 10, 10, 5, 1, 1], [0, 10, 10, 5, 1, 1, 2]),
+            (lambda k: slip(k, 1), [0, 11, -1, 7, 2, 0], [0, 11, 14, 7, 2, 1]),
+            (lambda k: files_of(k, 1), [2, 2, 3], [2, 2, 3]),
+            (lambda k: waits(k, 1), [1, 0], [-5]),
+            (lambda k: waits(k, 2), [1, 1], [1, 1]),
+            (lambda k: late(k, 18), [2, 1, 2], [1, 1]),
+            (lambda k: late(k, 22), [2, 1, 2], [3, 1, 2, 3]),
+            (lambda k: when(k, 1, 16), [0, 16], [-5]),
+            (lambda k: when(k, 2, 16), [0, 23], [0, 21]),
+        ):
+            with self.subTest(call=question(13)):
+                self.assertEqual(run(row + [question(k) for k in (12, 13, 14, 15)])[4:], [before, before, then, then])
+                self.assertEqual(run(row[:3] + [question(k) for k in (12, 13, 14, 15)])[3:], [before] * 4)
+
+    def test_days_far_behind_the_last_entrys_know_what_it_knows(self):
+        view = whole_view([22], range(5), range(4))
+        far = whole_view([5000], range(5), range(4))
+        for now, then, call in zip(asked(self.row, view), asked(self.row, far), view):
+            if call[0] not in (10, 11):
+                self.assertEqual(now, then)
